@@ -1,0 +1,1 @@
+"""Sleepwalk: a machine that is put to sleep at any step, and woken elsewhere."""
