@@ -9,6 +9,8 @@ POPPED = {
     "add": 2, "minus": 2, "times": 2, "less": 2, "same": 2, "fill": 2, "call": 2,
 }
 
+STUCK_WORDS = ("end", "empty", "own", "kind", "great", "deep", "full")
+
 
 def popped_by(word):
     return POPPED.get(word, 0)

@@ -1,9 +1,14 @@
-"""States: the first one of a program, and which ones fit it."""
+"""States: the first one of a program, and which ones fit a program."""
 
 
 def started(program):
     """Give the state of a program that begins, at its body 0."""
     return (None, [(0, 0, (), ())], {})
+
+
+def is_done(end):
+    """Tell if this end is that of a state that is done, so that it has a value."""
+    return end is not None and end[0] == "done"
 
 
 def fits(program, state):

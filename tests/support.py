@@ -29,6 +29,20 @@ def exact(value):
     return kind, value
 
 
+def spoil(value):
+    """Change every list and dict that an answer consists of, as its asker may."""
+    if isinstance(value, dict):
+        for part in list(value.values()):
+            spoil(part)
+        value.clear()
+        value["spoilt"] = "spoilt"
+    elif isinstance(value, (list, tuple)):
+        for part in value:
+            spoil(part)
+        if isinstance(value, list):
+            value[:] = ["spoilt"]
+
+
 class ExactTest(unittest.TestCase):
     def assert_exact(self, answer, expected):
         self.assertEqual(exact(answer), exact(expected))
@@ -42,6 +56,18 @@ class ExactTest(unittest.TestCase):
         found = [one for one in WORD_CLASSES if isinstance(caught.exception, one)]
         self.assertEqual(found, [error])
         self.assert_exact(given, before)
+
+    def assert_answer(self, expected, function, *given):
+        """The call gives this whole answer, made anew, and changes nothing handed in."""
+        before = deepcopy(given)
+        answer = function(*given)
+        self.assert_exact(answer, expected)
+        self.assert_exact(given, before)
+        other = function(*given)
+        spoil(answer)
+        self.assert_exact(given, before)
+        self.assert_exact(other, expected)
+        self.assert_exact(function(*given), expected)
 
     def assert_step(self, program, state, behind, said=None):
         """The step gives this whole answer, made anew, and changes nothing handed in."""

@@ -5,52 +5,8 @@ import unittest
 from sleepwalk.programs import checked
 from sleepwalk.states import fits, started
 from sleepwalk.steps import stepped
+from tests.examples import COUNTDOWN, ENDLESS, FACTORIAL, SHARED
 from tests.support import ExactTest
-
-# body 1 is the factorial: it keeps a box that holds the function itself
-FACTORIAL = [
-    [
-        ("num", 0), ("box",), ("keep",),
-        ("fun", 1, (0,)), ("keep",),
-        ("get", 0), ("get", 1), ("fill",),
-        ("get", 1), ("num", 10), ("call",), ("keep",), ("get", 2), ("say",),
-        ("get", 2), ("back",),
-    ],
-    [
-        ("get", 1), ("unless", 11),
-        ("get", 1),
-        ("get", 0), ("open",), ("get", 1), ("num", 1), ("minus",), ("call",),
-        ("times",), ("back",),
-        ("num", 1), ("back",),
-    ],
-]
-
-# two functions share the box that one fills and the other reads
-SHARED = [
-    [
-        ("num", 5), ("box",), ("keep",),
-        ("fun", 1, (0,)), ("num", 8), ("call",), ("say",),
-        ("fun", 2, (0,)), ("num", 0), ("call",), ("say",),
-        ("get", 0), ("back",),
-    ],
-    [("get", 0), ("get", 1), ("fill",), ("get", 0), ("back",)],
-    [("get", 0), ("open",), ("back",)],
-]
-
-COUNTDOWN = [[
-    ("num", 3), ("box",), ("keep",),
-    ("get", 0), ("open",), ("say",),
-    ("get", 0), ("get", 0), ("open",), ("num", 1), ("minus",), ("fill",),
-    ("get", 0), ("open",), ("unless", 16), ("jump", 3),
-    ("get", 0), ("say",), ("num", -1), ("back",),
-]]
-
-# a function that calls itself without end
-ENDLESS = [
-    [("num", 0), ("box",), ("keep",), ("fun", 1, (0,)), ("keep",), ("get", 0), ("get", 1), ("fill",),
-     ("get", 1), ("num", 0), ("call",), ("back",)],
-    [("get", 0), ("open",), ("num", 0), ("call",), ("back",)],
-]
 
 
 class WholeProgramsTest(ExactTest):
