@@ -47,8 +47,8 @@ class Reader:
         return [self.frame() for _ in range(many)]
 
     def frame(self):
-        body = self.number()
-        place = self.number()
+        body = self.number_from_nought()
+        place = self.number_from_nought()
         own = self.row(MOST_VALUES)
         stack = self.row(MOST_VALUES)
         return (body, place, own, stack)
@@ -59,7 +59,7 @@ class Reader:
             return ("box", self.value())
         if word != "fun":
             raise NoWords("a thing is a box or a fun")
-        body = self.number()
+        body = self.number_from_nought()
         return ("fun", body, self.row(MOST_KEPT))
 
     def row(self, most):
@@ -67,9 +67,9 @@ class Reader:
         return tuple([self.value() for _ in range(self.size(most))])
 
     def size(self, most):
-        many = self.number()
-        if not 0 <= many <= most:
-            raise NoWords(f"there may be from 0 to {most} here")
+        many = self.number_from_nought()
+        if many > most:
+            raise NoWords(f"there may be at most {most} here")
         return many
 
     def value(self):
@@ -89,8 +89,16 @@ class Reader:
             self.many_met += 1
         return number
 
-    def number(self):
-        return number_told(self.word())
+    def number_from_nought(self):
+        """Read a count, the number of a body, or a place.
+
+        How great a body's number or a place may be depends on the program. Below 0 it is in no
+        state of any program, so that is refused here, ahead of the question if the state fits.
+        """
+        number = number_told(self.word())
+        if number < 0:
+            raise NoWords("a count, a body's number or a place is 0 at least")
+        return number
 
 
 def number_told(text):

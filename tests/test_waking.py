@@ -13,6 +13,9 @@ GREATEST = [[("drop",)] * 60 for _ in range(20)]
 BIG = 10 ** 30
 BIG_FIGURES = "1" + "0" * 30
 
+# counts, bodies and places are never so
+BELOW_NOUGHT = ("-1", "-2", "-3", "-8", "-60", "-" + BIG_FIGURES, "-" + "9" * 31)
+
 # words that tell a state of PROGRAM, with all that words may tell
 GOOD = [
     "runs 1 0 0 0 0",
@@ -266,12 +269,40 @@ class NoWordsTest(WordsTest):
             self.assert_woken(f"runs 1 0 0 {many}" + " 5" * many + " 0", (None, [(0, 0, (5,) * many, ())], {}))
 
     def test_counts_below_nought(self):
-        for many in ("-1", "-8", "-60", "-" + "9" * 31):
+        for many in BELOW_NOUGHT:
             self.assert_no_words(f"runs {many} 0 0 0 0")
             self.assert_no_words(f"done 0 {many}")
             self.assert_no_words(f"runs 1 0 0 {many} 0")
             self.assert_no_words(f"runs 1 0 0 0 {many}")
             self.assert_no_words(f"done @0 0 fun 0 {many}")
+
+    def test_bodies_of_frames_below_nought(self):
+        for body in BELOW_NOUGHT:
+            for start in ("runs", "stuck end", "stuck deep"):
+                self.assert_no_words(f"{start} 1 {body} 0 0 0")
+                self.assert_no_words(f"{start} 2 {body} 0 0 0 0 0 0 0")
+                self.assert_no_words(f"{start} 3 0 0 0 0 {body} 0 1 @0 0 1 0 0 0 box 5")
+
+    def test_places_of_frames_below_nought(self):
+        for place in BELOW_NOUGHT:
+            for start in ("runs", "stuck end", "stuck kind"):
+                for body in range(3):
+                    self.assert_no_words(f"{start} 1 {body} {place} 0 0")
+                self.assert_no_words(f"{start} 2 0 {place} 0 0 0 0 0 0")
+                self.assert_no_words(f"{start} 3 0 0 0 0 1 {place} 0 1 @0 1 0 0 0 box 5")
+
+    def test_bodies_of_functions_below_nought(self):
+        for body in BELOW_NOUGHT:
+            self.assert_no_words(f"done @0 0 fun {body} 0")
+            self.assert_no_words(f"runs 1 0 0 0 1 @0 fun {body} 1 @1 fun 0 0")
+            self.assert_no_words(f"stuck own 1 0 0 0 1 @0 fun 0 1 @1 fun {body} 0")
+
+    def test_values_below_nought(self):
+        """Of all numbers among the words only values may be below 0."""
+        self.assert_woken(
+            "runs 1 0 0 1 -1 2 -2 @0 fun 0 2 -3 @1 box -4",
+            (None, [(0, 0, (-1,), (-2, at(0)))], {0: ("fun", 0, (-3, at(1))), 1: ("box", -4)}),
+        )
 
     def test_a_thing_that_is_not_the_next_one(self):
         self.assert_no_words("done @1 0 box 5")
@@ -323,7 +354,7 @@ class NoWordsTest(WordsTest):
 
 class NoFitTest(WordsTest):
     def test_bodies_of_frames(self):
-        for body in ("3", "4", "20", "61", "9" * 30, BIG_FIGURES, "9" * 31, "-1", "-3", "-" + "9" * 31):
+        for body in ("3", "4", "20", "61", "9" * 30, BIG_FIGURES, "9" * 31):
             for start in ("runs", "stuck end", "stuck deep"):
                 self.assert_no_fit(f"{start} 1 {body} 0 0 0")
                 self.assert_no_fit(f"{start} 3 0 0 0 0 {body} 0 1 @0 0 1 0 0 0 box 5")
@@ -331,14 +362,14 @@ class NoFitTest(WordsTest):
     def test_places_of_frames(self):
         for body, place in (
             (0, "4"), (1, "1"), (2, "2"), (2, "3"), (0, "60"), (0, "61"), (0, "9" * 30),
-            (0, BIG_FIGURES), (1, "9" * 31), (0, "-1"), (1, "-1"), (0, "-" + "9" * 31),
+            (0, BIG_FIGURES), (1, "9" * 31),
         ):
             for start in ("runs", "stuck end", "stuck kind"):
                 self.assert_no_fit(f"{start} 1 {body} {place} 0 0")
                 self.assert_no_fit(f"{start} 3 0 0 0 0 {body} {place} 0 1 @0 1 0 0 0 box 5")
 
     def test_bodies_of_functions(self):
-        for body in ("3", "4", "20", "61", "9" * 30, BIG_FIGURES, "9" * 31, "-1", "-3", "-" + "9" * 31):
+        for body in ("3", "4", "20", "61", "9" * 30, BIG_FIGURES, "9" * 31):
             self.assert_no_fit(f"done @0 0 fun {body} 0")
             self.assert_no_fit(f"runs 1 0 0 0 1 @0 fun {body} 1 @1 fun 0 0")
             self.assert_no_fit(f"stuck own 1 0 0 0 1 @0 fun 0 1 @1 fun {body} 0")
@@ -371,9 +402,18 @@ class NoFitTest(WordsTest):
         self.assert_no_words("done @0 0 fun 99 1 @1")
         self.assert_no_words("done @0 0 fun 99 1 @1 box -0")
         self.assert_no_words("done @0 0 fun 99 0 box 5")
-        self.assert_no_words("done @0 0 fun -1 9" + " 5" * 9)
+        self.assert_no_words("done @0 0 fun 99 9" + " 5" * 9)
         self.assert_no_words("done 5 1 99 0 0 0")
         self.assert_no_words("stuck here 1 99 0 0 0")
+
+    def test_numbers_below_nought_come_ahead(self):
+        """A number that is too great for the program stands ahead of one that is below 0."""
+        for below in BELOW_NOUGHT:
+            self.assert_no_words(f"runs 1 99 {below} 0 0")
+            self.assert_no_words(f"runs 2 99 0 0 0 {below} 0 0 0")
+            self.assert_no_words(f"runs 2 0 99 0 0 0 {below} 0 0")
+            self.assert_no_words(f"runs 1 99 0 0 1 @0 fun {below} 0")
+            self.assert_no_words(f"done @0 0 fun 99 1 @1 fun {below} 0")
 
 
 if __name__ == "__main__":
